@@ -366,9 +366,10 @@ func TestQuotientsOfNoSemigroup(t *testing.T) {
 	}
 }
 
-func TestQuotientCallsLeaveGens(t *testing.T) {
-	for name, call := range quotientCalls() {
-		for _, gens := range append(factoredSemigroups(), invalidGens()...) {
+func checkCallsLeaveGens[R any](t *testing.T, calls map[string]func(s impl.Semigroup) R, lists [][]int) {
+	t.Helper()
+	for name, call := range calls {
+		for _, gens := range lists {
 			g := guard(gens)
 			call(impl.Semigroup{Gens: g.list})
 			g.check(t, name, gens)
@@ -376,9 +377,12 @@ func TestQuotientCallsLeaveGens(t *testing.T) {
 	}
 }
 
-func TestQuotientResultsAreNewMemory(t *testing.T) {
-	for name, call := range quotientCalls() {
-		for _, gens := range factoredSemigroups() {
+// checkCallsGiveNewMemory also changes the argument of a call whose result is
+// looked at afterwards.
+func checkCallsGiveNewMemory(t *testing.T, calls map[string]func(s impl.Semigroup) []int, lists [][]int) {
+	t.Helper()
+	for name, call := range calls {
+		for _, gens := range lists {
 			checkNewMemory(t, name, gens, call)
 			g := guard(gens)
 			got := call(impl.Semigroup{Gens: g.list})
@@ -389,4 +393,12 @@ func TestQuotientResultsAreNewMemory(t *testing.T) {
 			}
 		}
 	}
+}
+
+func TestQuotientCallsLeaveGens(t *testing.T) {
+	checkCallsLeaveGens(t, quotientCalls(), append(factoredSemigroups(), invalidGens()...))
+}
+
+func TestQuotientResultsAreNewMemory(t *testing.T) {
+	checkCallsGiveNewMemory(t, quotientCalls(), factoredSemigroups())
 }
